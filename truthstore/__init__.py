@@ -1,0 +1,1 @@
+"""Truth functions as decision diagrams, counted exactly."""
