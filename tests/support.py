@@ -57,19 +57,59 @@ def chance(i):
     return [9, i]
 
 
+def given(i, j):
+    return [10, i, j]
+
+
+def ways(i):
+    return [11, i]
+
+
+def node(i):
+    return [12, i]
+
+
+def nodes(i):
+    return [13, i]
+
+
+def hangs(i):
+    return [14, i]
+
+
+def says(i, truths):
+    return [15, i, len(truths)] + list(truths)
+
+
+def listed(i, n):
+    return [16, i, n]
+
+
+def best(i):
+    return [17, i]
+
+
+def size_by(i, order):
+    return [18, i, len(order)] + list(order)
+
+
+def sizes():
+    return [19]
+
+
 def told(calls):
     """The answers to a list of calls, a list for each."""
     line = [number for call in calls for number in call]
     if len(calls) > 400 or len(line) > 16000:
         raise AssertionError("more than may be handed in")
-    given = answers(line)
+    flat = answers(line)
     found = []
     place = 0
-    while place < len(given):
-        behind = place + 1 + given[place]
-        found.append(given[place + 1:behind])
+    while place < len(flat):
+        behind = place + 1 + flat[place]
+        found.append(flat[place + 1:behind])
         place = behind
-    if len(found) != len(calls) or place != len(given):
+    if len(found) != len(calls) or place != len(flat):
         raise AssertionError("not one answer for each call")
     return found
 
@@ -100,6 +140,7 @@ class Model:
         self.nodes = []
         self.numbers = {}
         self.functions = {0: (0,) * len(self.rows), 1: (1,) * len(self.rows)}
+        self.row_chances = []
 
     def variable(self, v):
         return tuple(row[v] for row in self.rows)
@@ -157,8 +198,17 @@ class Model:
             product *= self.chances[v] if truth else 1 - self.chances[v]
         return product
 
+    def all_chances(self):
+        """The chances of all lists of truths, worked out when they are first asked for."""
+        if not self.row_chances:
+            self.row_chances = [self.row_chance(row) for row in self.rows]
+        return self.row_chances
+
     def chance(self, function):
-        return sum((self.row_chance(row) for row, truth in zip(self.rows, function) if truth), Fraction(0))
+        return sum((one for one, truth in zip(self.all_chances(), function) if truth), Fraction(0))
+
+    def yes_rows(self, function):
+        return [row for row, truth in zip(self.rows, function) if truth]
 
     def makes(self, call):
         """The function that a call makes a diagram of, or its refusal."""
@@ -194,13 +244,118 @@ class Model:
 
     def answer(self, call):
         """What is answered to a call other than vars and add."""
-        if call[0] == 9:
-            if not self.has(call[1]):
-                return [-2]
-            one = self.chance(self.says(call[1]))
-            return [1, one.numerator, one.denominator]
-        function = self.makes(call)
-        return [function if isinstance(function, int) else self.make(function)]
+        number, args = call[0], call[1:]
+        if number < 9:
+            function = self.makes(call)
+            return [function if isinstance(function, int) else self.make(function)]
+        if number == 19:
+            return [self.count, len(self.nodes)]
+        if not all(self.has(i) for i in args[:2 if number == 10 else 1]):
+            return [-2]
+        asks = {9: self.chance_answer, 10: self.given_answer, 11: self.ways_answer, 12: self.node_answer,
+                13: self.nodes_answer, 14: self.hangs_answer, 15: self.says_answer, 16: self.list_answer,
+                17: self.best_answer, 18: self.size_by_answer}
+        return asks[number](*args) if number not in (15, 18) else asks[number](args[0], args[2:])
+
+    def chance_answer(self, i):
+        one = self.chance(self.says(i))
+        return [1, one.numerator, one.denominator]
+
+    def given_answer(self, i, j):
+        below = self.chance(self.says(j))
+        if below == 0:
+            return [-6]
+        one = self.chance([a and b for a, b in zip(self.says(i), self.says(j))]) / below
+        return [1, one.numerator, one.denominator]
+
+    def ways_answer(self, i):
+        return [len(self.yes_rows(self.says(i)))]
+
+    def node_answer(self, i):
+        return [-6] if i < 2 else list(self.nodes[i - 2])
+
+    def nodes_answer(self, i):
+        line = [i]
+        for one in line:
+            if one > 1:
+                for part in self.nodes[one - 2][1:]:
+                    if part not in line:
+                        line.append(part)
+        kept = [one for one in line if one > 1]
+        return [len(kept)] + kept
+
+    def hangs_answer(self, i):
+        """By the variables that matter, whatever the nodes ask."""
+        function = self.says(i)
+        kept = [v for v in range(self.count) if self.fixed(function, v, 0) != self.fixed(function, v, 1)]
+        return [len(kept)] + kept
+
+    def says_answer(self, i, truths):
+        if len(truths) != self.count or any(truth not in (0, 1) for truth in truths):
+            return [-5]
+        return [self.says(i)[self.place[tuple(truths)]]]
+
+    def list_answer(self, i, n):
+        if not 0 <= n <= 200:
+            return [-5]
+        rows = self.yes_rows(self.says(i))[:n]
+        return [len(rows)] + [truth for row in rows for truth in row]
+
+    def best_answer(self, i):
+        pairs = [(one, row) for one, row, truth in zip(self.all_chances(), self.rows, self.says(i)) if truth]
+        if not pairs:
+            return [-6]
+        most = max(pairs)[0]
+        rows = [row for one, row in pairs if one == most]
+        return [len(rows), most.numerator, most.denominator] + list(min(rows))
+
+    def size_by_answer(self, i, order):
+        if len(order) != self.count or set(order) != set(range(self.count)):
+            return [-5]
+        asked = Model([self.chances[v] for v in order])
+        function = self.says(i)
+        asked.make(tuple(function[self.place[tuple(row[order.index(v)] for v in range(self.count))]]
+                         for row in asked.rows))
+        return [len(asked.nodes)]
+
+
+# For each operator of formulas how many parts it has, and what it says of their truths.
+RULES = {"not": (1, lambda a: 1 - a), "and": (2, lambda a, b: a & b), "or": (2, lambda a, b: a | b),
+         "eq": (2, lambda a, b: int(a == b)), "if": (3, lambda c, a, b: a if c else b)}
+
+
+def tree_text(tree, blanks=""):
+    """The formula of a tree: a word, or a tuple of an operator and its parts."""
+    if isinstance(tree, str):
+        return tree
+    comma = "," + blanks
+    return tree[0] + blanks + "(" + comma.join(tree_text(part, blanks) for part in tree[1:]) + blanks + ")"
+
+
+def tree_function(tree, names):
+    """What a tree's formula says for every list of truths of the variables with these names."""
+    rows = list(itertools.product((0, 1), repeat=len(names)))
+    words = {"true": (1,) * len(rows), "false": (0,) * len(rows)}
+    for v, name in enumerate(names):
+        words[name] = tuple(row[v] for row in rows)
+
+    def walk(part):
+        if isinstance(part, str):
+            return words[part]
+        return tuple(map(RULES[part[0]][1], *[walk(one) for one in part[1:]]))
+
+    return walk(tree)
+
+
+def scrambled(draws, names, terms):
+    """The tree of a formula with a large diagram: whether an even number of so many drawn conjunctions fails."""
+    if terms > 1:
+        half = terms // 2
+        return ("eq", scrambled(draws, names, half), scrambled(draws, names, terms - half))
+    tree = names[draws.below(len(names))]
+    for step in range(draws.below(5)):
+        tree = ("and", names[draws.below(len(names))], tree)
+    return tree
 
 
 def formula_of(function, names):

@@ -1,13 +1,10 @@
 """Formulas: what they say, and each fault with its place."""
 
-import itertools
 import unittest
 
-from tests.support import Draws, Model, add, chance, hold, told
+from tests.support import RULES, Draws, Model, add, chance, hold, told, tree_function, tree_text
 
 HEAD = hold("a : 1/2, b : 1/3, c : 1/4")
-RULES = {"not": (1, lambda a: 1 - a), "and": (2, lambda a, b: a & b), "or": (2, lambda a, b: a | b),
-         "eq": (2, lambda a, b: int(a == b)), "if": (3, lambda c, a, b: a if c else b)}
 
 
 def nested(depth, inner="a"):
@@ -20,19 +17,6 @@ def draw_tree(draws, names, depth):
         return (["true", "false"] + names)[draws.below(2 + len(names))]
     word = sorted(RULES)[draws.below(len(RULES))]
     return (word,) + tuple(draw_tree(draws, names, depth - 1) for part in range(RULES[word][0]))
-
-
-def tree_text(tree, blanks):
-    if isinstance(tree, str):
-        return tree
-    comma = "," + blanks
-    return tree[0] + blanks + "(" + comma.join(tree_text(part, blanks) for part in tree[1:]) + blanks + ")"
-
-
-def tree_says(tree, truths):
-    if isinstance(tree, str):
-        return truths[tree]
-    return RULES[tree[0]][1](*[tree_says(part, truths) for part in tree[1:]])
 
 
 class FormulaFaults(unittest.TestCase):
@@ -153,7 +137,6 @@ class WhatFormulasSay(unittest.TestCase):
     def test_many_formulas(self):
         names = ["a", "b", "and", "not", "x9"]
         text = "a : 1/2, b : 1/3, and : 2/5, not : 5/7, x9 : 1/11"
-        rows = list(itertools.product((0, 1), repeat=5))
         for seed, blanks in [(1, ""), (2, " "), (3, "\n# not(\n")]:
             draws = Draws(seed)
             model = Model(["1/2", "1/3", "2/5", "5/7", "1/11"])
@@ -165,8 +148,7 @@ class WhatFormulasSay(unittest.TestCase):
                 if sum(len(one) for one in calls) + len(call) > 15000:
                     break
                 calls.append(call)
-                says = [tree_says(tree, dict(zip(names, row), true=1, false=0)) for row in rows]
-                expected.append([1, model.make(tuple(says))])
+                expected.append([1, model.make(tree_function(tree, names))])
             self.assertGreater(len(calls), 20)
             self.assertEqual(told(calls), expected)
 

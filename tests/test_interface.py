@@ -5,12 +5,21 @@ import io
 import unittest
 
 import truthstore.diagrams
-from tests.support import FAR, add, both, chance, choose, every, fix, hold, other, put, some, told
+from tests.support import (FAR, add, best, both, chance, choose, every, fix, given, hangs, hold, listed, node, nodes,
+                           other, put, says, size_by, sizes, some, told, ways)
 from truthstore.diagrams import answers
 
-EVERY_CALL = [chance(0), hold("a : 1/2, b : 2/6, c : 1/4"), add("or(and(a, b), c)"), both(3, 4, 2), other(4),
-              choose(2, 3, 4), fix(4, 1, 0), some(4, 0), every(4, 0), put(4, 2, 3), chance(4), hold("a :"), add("x"),
-              both(7, FAR, -FAR), fix(4, 0, FAR), put(4, -FAR, FAR), chance(1)]
+MAKING = [chance(0), hold("a : 1/2, b : 2/6, c : 1/4"), add("or(and(a, b), c)"), both(3, 4, 2), other(4),
+          choose(2, 3, 4), fix(4, 1, 0), some(4, 0), every(4, 0), put(4, 2, 3), chance(4), hold("a :"), add("x"),
+          both(7, FAR, -FAR), fix(4, 0, FAR), put(4, -FAR, FAR), chance(1)]
+MADE = [[-1], [1], [1, 4], [6], [9], [4], [2], [3], [2], [3], [1, 3, 8], [0, 3, 3], [0, 6, 0], [-2], [-5], [-5],
+        [1, 1, 1]]
+ASKING = [given(2, 4), ways(4), node(4), nodes(4), hangs(4), says(4, [0, 1, 1]), listed(4, 2), best(4),
+          size_by(4, [0, 2, 1]), sizes(), given(4, 0), ways(FAR), node(0), nodes(1), hangs(0), says(4, [FAR, -FAR]),
+          listed(4, FAR), best(0), size_by(4, [])]
+ASKED = [[1, 2, 3], [5], [0, 2, 3], [3, 4, 2, 3], [3, 0, 1, 2], [1], [2, 0, 0, 1, 0, 1, 1], [1, 1, 8, 1, 1, 0], [4],
+         [3, 8], [-6], [-2], [-6], [0], [0], [-5], [-5], [-6], [-5]]
+EVERY_CALL = MAKING + ASKING
 
 
 def flat(calls):
@@ -37,8 +46,8 @@ class Form(unittest.TestCase):
         self.assertEqual(answers(line), [1, 1, 2, 1, 2, 3, 0, 3, 0, 3, 1, 1, 1])
 
     def test_each_call(self):
-        self.assertEqual(told(EVERY_CALL), [[-1], [1], [1, 4], [6], [9], [4], [2], [3], [2], [3], [1, 3, 8], [0, 3, 3],
-                                            [0, 6, 0], [-2], [-5], [-5], [1, 1, 1]])
+        self.assertEqual(told(EVERY_CALL), MADE + ASKED)
+        self.assertEqual({call[0] for call in EVERY_CALL}, set(range(20)))
 
     def test_whole_numbers_in_a_list(self):
         found = answers(flat(EVERY_CALL))
@@ -54,6 +63,45 @@ class Form(unittest.TestCase):
         line = line + add("#" * last_length)
         self.assertEqual(len(line), 16000)
         self.assertEqual(answers(line), [1, 1, 2, 1, 2, 2, 1, 3, 3, 0, 3, 4096, 3, 0, 3, last_length])
+
+    def test_no_counts_but_those_that_are_told(self):
+        line = [0, 11] + list(b"a:1/2,b:1/3") + [1, 8] + list(b"or(a, b)") + [13, 3, 14, 3, 16, 3, 2, 17, 3, 19]
+        self.assertEqual(answers(line), [1, 1, 2, 1, 3, 3, 2, 3, 2, 3, 2, 0, 1, 5, 2, 0, 1, 1, 0, 5, 1, 1, 3, 1, 0,
+                                         2, 2, 2])
+
+    def test_rows_that_hold_numbers_of_calls(self):
+        line = hold("a : 1/2, b : 1/3") + [15, 1, 2, 0, 1, 18, 1, 2, 1, 0, 15, 1, 0, 18, 1, 0, 15, 1, 3, 19, 19, 19, 19]
+        self.assertEqual(answers(line), [1, 1, 1, 1, 1, 0, 1, -5, 1, -5, 1, -5, 2, 2, 0])
+
+    def test_400_calls_with_each_of_them_among(self):
+        calls = EVERY_CALL + [call for step in range(30) for call in ASKING][:400 - len(EVERY_CALL)]
+        expected = MADE + ASKED + [answer for step in range(30) for answer in ASKED][:400 - len(EVERY_CALL)]
+        self.assertEqual(len(calls), 400)
+        before = flat(calls)
+        line = list(before)
+        self.assertEqual(told(calls), expected)
+        answers(line)
+        self.assertEqual(line, before)
+
+    def test_16000_numbers_with_each_call_among(self):
+        long_rows = [says(4, [1] * 2000), size_by(4, list(range(2000))), says(9, [FAR] * 2000),
+                     size_by(-1, [-FAR] * 2000), add("a".ljust(4096))]
+        calls = EVERY_CALL + long_rows
+        left = 16000 - len(flat(calls)) - 3
+        calls = calls + [says(0, [0] * 1500), size_by(1, [2] * (left - 1503))]
+        line = flat(calls)
+        before = list(line)
+        self.assertEqual(len(line), 16000)
+        self.assertEqual(told(calls), MADE + ASKED + [[-5], [-5], [-5], [-2], [1, 10], [-5], [-5]])
+        answers(line)
+        self.assertEqual(line, before)
+
+    def test_a_million_numbers_may_be_answered(self):
+        names = ["v%d" % v for v in range(12)]
+        text = ", ".join("%s : 1/2" % name for name in names)
+        found = answers(hold(text) + listed(1, 200) * 399)
+        self.assertEqual(len(found), 2 + 399 * 2402)
+        self.assertEqual(found[2:2404], found[-2402:])
 
     def test_texts_of_8192_bytes(self):
         for byte in (0, 32, 35, 40, 65, 255):

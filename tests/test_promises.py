@@ -1,4 +1,4 @@
-"""The promises 1 to 5, over functions of several variables and all truths.
+"""The promises, over functions of several variables and all truths; the seventh has tests in test_orders.py too.
 
 The chances of ODD are such that a function's chance tells all that it says: with odds of 2, 4, 16 and so on each
 list of truths has a power of 2 of its own, and the chance's numerator over ODD_WHOLE holds one bit for each.
@@ -8,8 +8,9 @@ import itertools
 import unittest
 from fractions import Fraction
 
-from tests.support import (Draws, Model, add, all_functions, both, chance, choose, every, fix, formula_of, hold,
-                           other, put, some, told, written)
+from tests.support import (Draws, Model, add, all_functions, best, both, chance, choose, every, fix, formula_of, given,
+                           hangs, hold, listed, node, nodes, other, put, says, size_by, sizes, some, told, ways,
+                           written)
 
 NAMES = ["a", "b", "c", "d", "e"]
 ODD = {3: ["16/17", "4/5", "2/3"], 4: ["256/257", "16/17", "4/5", "2/3"]}
@@ -214,6 +215,46 @@ class Chances(unittest.TestCase):
         self.assertEqual(told(calls)[-5:], [[1, 0, 1], [1, 1, 1], [1, 1, 1], [1, 0, 1], [1, 1, 1]])
 
 
+class HangsOn(unittest.TestCase):
+    """Point 6, by what the diagrams say for all truths."""
+
+    def said(self, head, numbers, count):
+        """For each diagram what it says for every list of truths, as the program says it."""
+        rows = list(itertools.product((0, 1), repeat=count))
+        found = []
+        for number in numbers:
+            answer = told(head + [says(number, row) for row in rows])[len(head):]
+            found.append({row: one[0] for row, one in zip(rows, answer)})
+        return found
+
+    def check(self, functions, count):
+        head = begin(functions, count, ["1/%d" % (v + 2) for v in range(count)])
+        numbers = [answer[1] for answer in told(head)[1:]]
+        found = told(head + [hangs(i) for i in numbers])[len(head):]
+        for function, answer, table in zip(functions, found, self.said(head, numbers, count)):
+            self.assertEqual(tuple(table.values()), function)
+            self.assertEqual(answer[1:], sorted(set(answer[1:])))
+            self.assertEqual(answer[0], len(answer) - 1)
+            for v in range(count):
+                changed = [row for row in table if table[row] != table[row[:v] + (1 - row[v],) + row[v + 1:]]]
+                self.assertEqual(v in answer[1:], changed != [], (function, v))
+
+    def test_every_function_of_one_and_two_variables(self):
+        self.check(all_functions(1), 1)
+        self.check(all_functions(2), 2)
+
+    def test_every_function_of_three_variables(self):
+        functions = all_functions(3)
+        self.check(functions[:128], 3)
+        self.check(functions[128:], 3)
+
+    def test_functions_of_five_variables(self):
+        model = Model(["1/2"] * 5)
+        loose = [model.fixed(model.fixed(one, turn % 5, 1), turn % 3, 0)
+                 for turn, one in enumerate(some_functions(5, 20, 9))]
+        self.check(some_functions(5, 10, 8) + loose + [model.variable(v) for v in range(5)], 5)
+
+
 class LikeTheModel(unittest.TestCase):
     """Long lists of calls, with good and bad arguments, answered as the model answers them."""
 
@@ -226,22 +267,30 @@ class LikeTheModel(unittest.TestCase):
         def small(bound):
             return far[draws.below(5)] if draws.below(25) == 0 else draws.below(bound)
 
-        number = 2 + draws.below(8)
-        if number == 2:
-            return both(small(4), diagram(), diagram())
-        if number == 4:
-            return choose(diagram(), diagram(), diagram())
-        if number == 5:
-            return fix(diagram(), small(model.count), small(2))
-        if number == 8:
-            return put(diagram(), small(model.count), diagram())
-        return [number, diagram()] + ([small(model.count)] if number in (6, 7) else [])
+        def row(bound):
+            return [small(bound) for step in range(model.count + (draws.below(25) == 0))]
+
+        def order():
+            numbers = list(range(model.count))
+            shuffled = [numbers.pop(draws.below(len(numbers))) for step in range(model.count)]
+            return shuffled if draws.below(10) else row(model.count)
+
+        forms = [lambda: both(small(4), diagram(), diagram()), lambda: other(diagram()),
+                 lambda: choose(diagram(), diagram(), diagram()),
+                 lambda: fix(diagram(), small(model.count), small(2)), lambda: some(diagram(), small(model.count)),
+                 lambda: every(diagram(), small(model.count)),
+                 lambda: put(diagram(), small(model.count), diagram()), lambda: chance(diagram()),
+                 lambda: given(diagram(), diagram()), lambda: ways(diagram()), lambda: node(diagram()),
+                 lambda: nodes(diagram()), lambda: hangs(diagram()), lambda: says(diagram(), row(2)),
+                 lambda: listed(diagram(), small(12)), lambda: best(diagram()), lambda: size_by(diagram(), order()),
+                 sizes]
+        return forms[draws.below(len(forms))]()
 
     def test_lists_of_calls(self):
-        for count, seed in [(1, 1), (2, 2), (3, 3), (4, 4), (5, 5), (6, 6)]:
-            draws = Draws(seed)
+        for count, seed in itertools.product((1, 2, 3, 4, 5, 6), (1, 2, 3)):
+            draws = Draws(10 * seed + count)
             names = ["v%d" % v for v in range(count)]
-            chances = ["%d/%d" % (v + 1, 2 * v + 3) for v in range(count)]
+            chances = [["%d/%d" % (v + 1, 2 * v + 3), "1/2", "%d/2" % (v % 3)][seed - 1] for v in range(count)]
             model = Model(chances)
             calls = [hold(written(names, chances))] + [add(name) for name in names]
             expected = [[1]] + [[1, model.make(model.variable(v))] for v in range(count)]

@@ -1,4 +1,4 @@
-"""What each call answers, once variables are held: a list of the numbers that are told."""
+"""What each call answers that makes a diagram, once variables are held: a list of the numbers that are told."""
 
 from truthstore.faults import Fault
 from truthstore.formulas import formula_table
@@ -79,10 +79,3 @@ def answer_put(store, diagram, variable, inner):
     with_false = store.space.fixed(table, variable, 0)
     with_true = store.space.fixed(table, variable, 1)
     return [store.make(store.space.chosen(store.tables[inner], with_true, with_false))]
-
-
-def answer_chance(store, diagram):
-    """Tell a diagram's chance."""
-    store.check_diagram(diagram)
-    chance = store.chance_of(diagram)
-    return [1, chance[0], chance[1]]

@@ -1,8 +1,10 @@
 """Calls on one new object, read from a list of whole numbers and answered by another."""
 
-from truthstore.calls import answer_add, answer_both, answer_chance, answer_choose, answer_every, answer_not
-from truthstore.calls import answer_put, answer_set, answer_some
+from truthstore.calls import answer_add, answer_both, answer_choose, answer_every, answer_not, answer_put
+from truthstore.calls import answer_set, answer_some
 from truthstore.faults import Fault
+from truthstore.questions import answer_best, answer_chance, answer_given, answer_hangs, answer_list, answer_node
+from truthstore.questions import answer_nodes, answer_says, answer_size_by, answer_sizes, answer_ways
 from truthstore.refusals import NoVariables, Refusal
 from truthstore.store import Store
 from truthstore.variables import variables_of
@@ -17,10 +19,21 @@ SOME = 6
 EVERY = 7
 PUT = 8
 CHANCE = 9
+GIVEN = 10
+WAYS = 11
+NODE = 12
+NODES = 13
+HANGS = 14
+SAYS = 15
+LIST = 16
+BEST = 17
+SIZE_BY = 18
 
 # For each call, by its number, how many whole numbers it has, and how many rows.
 FORMS = {
     0: (0, 1), 1: (0, 1), 2: (3, 0), 3: (1, 0), 4: (3, 0), 5: (3, 0), 6: (2, 0), 7: (2, 0), 8: (3, 0), 9: (1, 0),
+    10: (2, 0), 11: (1, 0), 12: (1, 0), 13: (1, 0), 14: (1, 0), 15: (1, 1), 16: (2, 0), 17: (1, 0), 18: (1, 1),
+    19: (0, 0),
 }
 
 
@@ -66,11 +79,13 @@ class Keeper:
             raise NoVariables()
         if call.number == ADD:
             return answer_add(self.store, self.names, call.row)
-        return answer_numbers(self.store, call.number, call.numbers)
+        if call.number <= PUT:
+            return answer_made(self.store, call.number, call.numbers)
+        return answer_asked(self.store, call.number, call.numbers, call.row)
 
 
-def answer_numbers(store, number, told):
-    """What is answered to a call that has whole numbers alone."""
+def answer_made(store, number, told):
+    """What is answered to a call that makes a diagram of others."""
     if number == BOTH:
         return answer_both(store, told[0], told[1], told[2])
     if number == NOT:
@@ -83,9 +98,32 @@ def answer_numbers(store, number, told):
         return answer_some(store, told[0], told[1])
     if number == EVERY:
         return answer_every(store, told[0], told[1])
-    if number == PUT:
-        return answer_put(store, told[0], told[1], told[2])
-    return answer_chance(store, told[0])
+    return answer_put(store, told[0], told[1], told[2])
+
+
+def answer_asked(store, number, told, row):
+    """What is answered to a call that makes nothing."""
+    if number == CHANCE:
+        return answer_chance(store, told[0])
+    if number == GIVEN:
+        return answer_given(store, told[0], told[1])
+    if number == WAYS:
+        return answer_ways(store, told[0])
+    if number == NODE:
+        return answer_node(store, told[0])
+    if number == NODES:
+        return answer_nodes(store, told[0])
+    if number == HANGS:
+        return answer_hangs(store, told[0])
+    if number == SAYS:
+        return answer_says(store, told[0], row)
+    if number == LIST:
+        return answer_list(store, told[0], told[1])
+    if number == BEST:
+        return answer_best(store, told[0])
+    if number == SIZE_BY:
+        return answer_size_by(store, told[0], row)
+    return answer_sizes(store)
 
 
 def call_at(calls, place):

@@ -30,7 +30,14 @@ class StoreFull(Refusal):
 
 
 class WrongArgument(Refusal):
-    """There is no such variable, or no such choice."""
+    """There is no such variable or choice, or a row or a bound is not as it has to be."""
 
     def __init__(self):
         Refusal.__init__(self, -5)
+
+
+class NothingToTell(Refusal):
+    """What is asked for is not there: a node of 0 or 1, a chance given what never is, the best of no truths."""
+
+    def __init__(self):
+        Refusal.__init__(self, -6)

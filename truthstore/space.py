@@ -50,3 +50,34 @@ class Space:
             return with_true | (with_true >> block)
         with_false = table ^ with_true
         return with_false | (with_false << block)
+
+    def swapped(self, table, first, second):
+        """What the table says with two variables in each other's place; the first is not behind the second."""
+        one = self.variable_tables[first]
+        two = self.variable_tables[second]
+        unlike = table & (one ^ two)
+        gap = (1 << (self.count - 1 - first)) - (1 << (self.count - 1 - second))
+        return (table ^ unlike) | ((unlike & one) >> gap) | ((unlike & two) << gap)
+
+    def reordered(self, table, order):
+        """The table of the same function of the variables in this order."""
+        standing = list(range(self.count))
+        for place in range(self.count):
+            found = standing.index(order[place])
+            table = self.swapped(table, place, found)
+            standing[found] = standing[place]
+            standing[place] = order[place]
+        return table
+
+    def places(self, table, most):
+        """The places of the lists of truths for which the table says yes, in order, but at most so many."""
+        found = []
+        while table > 0 and len(found) < most:
+            lowest_bit = table & -table
+            found.append(lowest_bit.bit_length() - 1)
+            table = table ^ lowest_bit
+        return found
+
+    def truths_at(self, place):
+        """The list of truths whose place it is."""
+        return [(place >> (self.count - 1 - variable)) & 1 for variable in range(self.count)]
